@@ -1,0 +1,46 @@
+"""Calls as the interface has them, and what is answered, call by call."""
+
+from believeddesk.house import answers
+
+LARGEST = 4294967295
+# The largest number of several that each kind has: 3, 13, 5 and 9 relations.
+LARGEST_SEVERAL = (7, 8191, 31, 511)
+
+
+def begins(kind, things):
+    return [0, kind, things]
+
+
+def told(first, other, several):
+    return [1, first, other, several]
+
+
+def drop(which):
+    return [2, which]
+
+
+def line(calls):
+    return [number for call in calls for number in call]
+
+
+def answered(calls):
+    """Each call's answer as a list, taken apart by the counts ahead of them."""
+    given = answers(line(calls))
+    parts = []
+    start = 0
+    while start < len(given):
+        count = given[start]
+        part = given[start + 1:start + 1 + count]
+        if len(part) != count:
+            raise ValueError("fewer numbers than their count says")
+        parts.append(part)
+        start += 1 + count
+    return parts
+
+
+def firsts(calls):
+    """Each call's answer, where each is one number."""
+    parts = answered(calls)
+    if len(parts) != len(calls) or any(len(part) != 1 for part in parts):
+        raise ValueError(f"not one number for each call: {parts}")
+    return [part[0] for part in parts]
