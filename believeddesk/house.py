@@ -1,22 +1,26 @@
 """One house: what it is told of its things, and what it answers to a line of calls."""
 
-# By a kind's number, how many relations it has: moments, spans, sets, places.
-RELATION_COUNTS = (3, 13, 5, 9)
+from believeddesk.can import wrong_with_numbers
+from believeddesk.cannot import steps_of, wrong_with_steps
+from believeddesk.kinds import TURNED
+from believeddesk.own import own_answer
+from believeddesk.table import Rules
+
 MOST_THINGS = 4
 MOST_NEWS = 10
 
 OUT_OF_BOUNDS = -1
+STEPS_MALFORMED = -1
 NO_SUCH_NEWS = -2
 NEWS_FULL = -7
 
 BEGINS = 0
 TOLD = 1
-# By a call's number (begins, told, drop), how many numbers stand behind it.
-NUMBER_COUNTS = (2, 3, 1)
-
-
-class CallNotBuilt(Exception):
-    pass
+DROP = 2
+OWN = 3
+NOT = 4
+# By a call's number (begins, told, drop, own): how many numbers stand behind it. Not and can have a row instead.
+NUMBER_COUNTS = (2, 3, 1, 0)
 
 
 class House:
@@ -26,7 +30,7 @@ class House:
         self.news = []
 
     def begins(self, kind, things):
-        if kind >= len(RELATION_COUNTS) or things < 1 or things > MOST_THINGS:
+        if kind >= len(TURNED) or things < 1 or things > MOST_THINGS:
             return [OUT_OF_BOUNDS]
         self.kind = kind
         self.things = things
@@ -48,20 +52,33 @@ class House:
         self.news.pop(which)
         return [len(self.news)]
 
+    def own(self):
+        rules = Rules(self.kind, self.things)
+        return own_answer(rules, rules.first_table(self.news))
+
+    def cannot_by(self, numbers):
+        steps = steps_of(numbers)
+        if steps is None:
+            return [STEPS_MALFORMED]
+        rules = Rules(self.kind, self.things)
+        return wrong_with_steps(rules, rules.first_table(self.news), steps)
+
+    def can_by(self, numbers):
+        return wrong_with_numbers(self.kind, self.things, self.news, numbers)
+
     def has_two(self, first, other):
         return first != other and first < self.things and other < self.things
 
     def has_relations(self, several):
         # None at all is let: nothing is left of the pair then.
-        return several.bit_length() <= RELATION_COUNTS[self.kind]
+        return several.bit_length() <= len(TURNED[self.kind])
 
 
 def call_at(calls, start):
     number = calls[start]
-    # Passing over such a call would leave its answer out and shift all that follow.
-    if number >= len(NUMBER_COUNTS):
-        raise CallNotBuilt(f"no answer is built for call {number}")
-    return calls[start:start + 1 + NUMBER_COUNTS[number]]
+    if number < len(NUMBER_COUNTS):
+        return calls[start:start + 1 + NUMBER_COUNTS[number]]
+    return calls[start:start + 2 + calls[start + 1]]
 
 
 def answer_to(house, call):
@@ -69,7 +86,13 @@ def answer_to(house, call):
         return house.begins(call[1], call[2])
     if call[0] == TOLD:
         return house.told(call[1], call[2], call[3])
-    return house.drop(call[1])
+    if call[0] == DROP:
+        return house.drop(call[1])
+    if call[0] == OWN:
+        return house.own()
+    if call[0] == NOT:
+        return house.cannot_by(call[2:])
+    return house.can_by(call[2:])
 
 
 def answers(calls):

@@ -19,6 +19,23 @@ def drop(which):
     return [2, which]
 
 
+def own():
+    return [3]
+
+
+def cannot(numbers):
+    return [4, len(numbers)] + list(numbers)
+
+
+def can(numbers):
+    return [5, len(numbers)] + list(numbers)
+
+
+def flat(steps):
+    """A proof's numbers, step behind step."""
+    return [number for step in steps for number in step]
+
+
 def line(calls):
     return [number for call in calls for number in call]
 
@@ -36,6 +53,16 @@ def answered(calls):
         parts.append(part)
         start += 1 + count
     return parts
+
+
+def telling(kind, things, news):
+    """The calls that tell a house these news."""
+    return [begins(kind, things)] + [told(*each) for each in news]
+
+
+def last(calls):
+    """What is answered to the last call."""
+    return answered(calls)[-1]
 
 
 def firsts(calls):
