@@ -6,7 +6,8 @@ from pictures import PICTURES, TURNED_PICTURES
 
 ORDER = ((0, 1), (0, 2), (1, 2), (0, 3), (1, 3), (2, 3))
 
-# What is told of each pair, in their order, and the steps that then prove that it can't all be so.
+# What is told of each pair, in their order, and the steps that then prove that it can't all be so. These steps were
+# written down from the program's answers, not worked out by hand; test_plain.py holds the same news against the words.
 SPANS_BY_CASES = (
     (36, 68, 384, 1664, 256, 2176),
     [(1, 0, 1),
